@@ -1,1 +1,1 @@
-"""The same people in many lists: which records are told the same, and which surely differ."""
+"""The same people in many lists: which records are one person, which surely differ, and why."""

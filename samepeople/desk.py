@@ -7,6 +7,9 @@ from samepeople.rules import Rules
 SL_START = 0
 SL_ADD = 1
 SL_PAIR = 2
+SL_GROUP = 3
+SL_WHY = 4
+SL_COUNT = 5
 
 
 class UnknownCall(ValueError):
@@ -70,6 +73,14 @@ def answer_call(people, reader):
         i = reader.take_number()
         j = reader.take_number()
         return people.tell_pair(i, j)
+    if call == SL_GROUP:
+        return people.tell_group(reader.take_number())
+    if call == SL_WHY:
+        i = reader.take_number()
+        j = reader.take_number()
+        return people.tell_why(i, j)
+    if call == SL_COUNT:
+        return people.tell_count()
     raise UnknownCall("no such call")
 
 

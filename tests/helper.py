@@ -1,6 +1,6 @@
-"""Calls written in numbers, answers taken apart, and a plain model of names to hold the program against."""
+"""Calls written in numbers, answers taken apart, and plain models of names and persons to hold the program against."""
 
-from itertools import groupby
+from itertools import combinations, groupby
 from string import ascii_uppercase
 
 from samepeople.desk import answers
@@ -40,6 +40,56 @@ def add(first="", last="", birth=(0, 0, 0), place=0, number=0, roll=0, zero=(0, 
 
 def pair(i, j):
     return [2, i, j]
+
+
+def group(i):
+    return [3, i]
+
+
+def why(i, j):
+    return [4, i, j]
+
+
+def count():
+    return [5]
+
+
+def link_start(same=100, perhaps=50):
+    """Rules by which first names that are alike or one change apart are the same, and like last names perhaps.
+
+    Places that differ surely differ by the sum, numbers that differ as they always do.
+    """
+    return start(
+        same=same, perhaps=perhaps, never=-50, first=(0, 0, 0, 0, 100, 100), last=(0, 0, 0, 0, 0, 50),
+        birth=(0, 0, 100, 100), place=(0, -300, 0), number=(0, 0, 0),
+    )
+
+
+def linked(*firsts):
+    """Those rules, and a record for each: a first name, or a dict of what add takes."""
+    return [link_start(), *[add(first) if isinstance(first, str) else add(**first) for first in firsts]]
+
+
+def births_in_a_row(size):
+    """Dates of which each has two parts in common with the one before, and no other two dates have."""
+    days = []
+    for month in range(1, 13):
+        turned = range(1, 32) if month % 2 else range(31, 0, -1)
+        days += [(month, day) for day in turned]
+    return [((k + 1) // 2 + 1, *days[k // 2]) for k in range(size)]
+
+
+def asked(opening, *calls):
+    """What is answered to the calls behind an opening: a refusal's number, or a row without its form and count."""
+    shown = []
+    for answer in told(*opening, *calls)[len(opening):]:
+        if answer[0] == 0 and len(answer) == 2 and answer[1] < 0:
+            shown.append(answer[1])
+        elif answer[0] == 2 and len(answer) == answer[1] + 2:
+            shown.append(answer[2:])
+        else:
+            raise ValueError("neither a refusal nor a row")
+    return shown
 
 
 def line(calls):
@@ -110,3 +160,54 @@ def model_like(a, b):
     if min(len(a), len(b)) >= 3 and (a.startswith(b) or b.startswith(a)):
         return 3
     return 2 if model_sound(a) == model_sound(b) else 1
+
+
+def told_matrix(opening):
+    """What sl_pair tells of each two records of an sl_start and its adds; None of one with itself."""
+    places = range(len(opening) - 1)
+    both = [(i, j) for i in places for j in places if i != j]
+    given = told(*opening, *[pair(i, j) for i, j in both])[len(opening):]
+    matrix = [[None for j in places] for i in places]
+    for (i, j), answer in zip(both, given):
+        matrix[i][j] = answer[1]
+    return matrix
+
+
+def model_part(matrix, i):
+    part = {i}
+    while True:
+        wider = part | {k for k in range(len(matrix)) if any(matrix[k][j] == 2 for j in part)}
+        if wider == part:
+            return part
+        part = wider
+
+
+def model_torn(matrix, i):
+    return any(matrix[a][b] == 3 for a, b in combinations(model_part(matrix, i), 2))
+
+
+def model_person(matrix, i):
+    return {i} if model_torn(matrix, i) else model_part(matrix, i)
+
+
+def model_group(matrix, i):
+    person = model_person(matrix, i)
+    return [min(person), len(person), int(model_torn(matrix, i))]
+
+
+def model_why(matrix, i, j):
+    """All ways grow by a step at a time, until one is there: the least of those that are."""
+    if j not in model_person(matrix, i):
+        return -11
+    ways = [[i]]
+    while not any(way[-1] == j for way in ways):
+        ways = [way + [k] for way in ways for k in range(len(matrix)) if matrix[way[-1]][k] == 2 and k not in way]
+    return min(way for way in ways if way[-1] == j)
+
+
+def model_count(matrix):
+    places = range(len(matrix))
+    persons = {frozenset(model_person(matrix, i)) for i in places}
+    torn = {frozenset(model_part(matrix, i)) for i in places if model_torn(matrix, i)}
+    perhaps = [1 for i, j in combinations(places, 2) if matrix[i][j] == 1 and j not in model_person(matrix, i)]
+    return [len(persons), len(torn), len(perhaps)]

@@ -89,8 +89,39 @@ class Language(unittest.TestCase):
             self.assertEqual({name for name in used if hasattr(builtins, name)} - OWN_NAMES, set(), path)
 
     def test_methods(self):
-        own = {node.name for tree in self.trees.values() for node in ast.walk(tree) if isinstance(node, ast.FunctionDef)}
+        nodes = [node for tree in self.trees.values() for node in ast.walk(tree)]
+        own = {node.name for node in nodes if isinstance(node, ast.FunctionDef)}
         for path, tree in self.trees.items():
             calls = [node.func for node in ast.walk(tree) if isinstance(node, ast.Call)]
             called = {func.attr for func in calls if isinstance(func, ast.Attribute)}
             self.assertEqual(called - own - OWN_METHODS, set(), path)
+
+    def test_no_name_is_a_method_and_a_value(self):
+        nodes = [node for tree in self.trees.values() for node in ast.walk(tree)]
+        classes = [node for node in nodes if isinstance(node, ast.ClassDef)]
+        methods = {part.name for node in classes for part in node.body if isinstance(part, ast.FunctionDef)}
+        values = {node.attr for node in nodes if isinstance(node, ast.Attribute) and isinstance(node.ctx, ast.Store)}
+        self.assertEqual(methods & values, set())
+
+    def test_locals_are_not_called_like_what_is_there(self):
+        for path, tree in self.trees.items():
+            taken = {node.name for node in tree.body if isinstance(node, ast.ClassDef)}
+            taken |= {name.name for node in tree.body if isinstance(node, ast.ImportFrom) for name in node.names}
+            for node in ast.walk(tree):
+                if isinstance(node, ast.FunctionDef):
+                    given = {part.arg for part in ast.walk(node) if isinstance(part, ast.arg)}
+                    given |= {
+                        part.id for part in ast.walk(node)
+                        if isinstance(part, ast.Name) and isinstance(part.ctx, ast.Store)
+                    }
+                    self.assertEqual({name for name in given if name in taken or hasattr(builtins, name)}, set(), path)
+
+    def test_no_two_files_draw_from_one_another(self):
+        drawn = {
+            "samepeople." + path.stem: {node.module for node in tree.body if isinstance(node, ast.ImportFrom)}
+            for path, tree in self.trees.items()
+        }
+        while drawn:
+            free = {module for module, others in drawn.items() if not others & set(drawn)}
+            self.assertTrue(free, drawn)
+            drawn = {module: others for module, others in drawn.items() if module not in free}
